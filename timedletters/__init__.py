@@ -1,0 +1,1 @@
+"""Letters that open in their time: sealed quickly, opened by many squarings."""
