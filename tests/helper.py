@@ -11,10 +11,21 @@ TOP = 2 ** 512 - 1
 # A power of 3 just above 2^504: what 3 is raised to soon leaves 0.
 THREES = 3 ** 318
 LETTER = list(range(200, 232))
+# Above what is left of any begin.
+ALL = 4294967295
 
 
 def row_of(number):
     return list(number.to_bytes(64, "big"))
+
+
+def rows_of(numbers):
+    return [byte for number in numbers for byte in row_of(number)]
+
+
+def numbers_of(rows):
+    starts = range(0, len(rows), 64)
+    return [int.from_bytes(bytes(rows[start:start + 64]), "big") for start in starts]
 
 
 def counted(row):
@@ -37,6 +48,19 @@ def work(steps):
 
 
 VALUE = [3]
+SHOW = [4]
+
+
+def right(k, n, x, y, proof):
+    """The call right; proof is a list of numbers here."""
+    call = [5, k]
+    for number in (n, x, y):
+        call += counted(row_of(number))
+    return call + counted(rows_of(proof))
+
+
+def read(y, sealed):
+    return [6] + counted(row_of(y)) + counted(sealed)
 
 
 def split(given):
@@ -82,3 +106,45 @@ def fits(k, n, x):
 def value_of(k, n, x):
     """The face of x raised 2^k times, with the exponent written out."""
     return face(pow(x, 2 ** (2 ** k), n), n)
+
+
+def asked_lots(lots):
+    """How many lots were asked, and these: a tuple of a, b, c and t for each."""
+    told = [len(lots)]
+    for a, b, c, t in lots:
+        told += [2] + rows_of((a, b, c)) + [t]
+    return told
+
+
+def next_claim(n, a, b, c, t):
+    """What a and b become in the round of t."""
+    r = (n + a + 3 * b + 5 * c + 7 * t) & 0xffffffff
+    return face(pow(a, r, n) * c, n), face(pow(c, r, n) * b, n)
+
+
+def proof_of(k, n, x):
+    """The numbers of the proof, and the lots asked for it."""
+    proof, lots = [], []
+    a, b = x, value_of(k, n, x)
+    for t in range(k, 0, -1):
+        proof.append(value_of(t - 1, n, a))
+        lots.append((a, b, proof[-1], t))
+        a, b = next_claim(n, a, b, proof[-1], t)
+    return proof, lots
+
+
+def shown(k, n, x):
+    """What show answers once x is raised 2^k times."""
+    proof, lots = proof_of(k, n, x)
+    return [k] + rows_of(proof) + asked_lots(lots)
+
+
+def judged(k, n, x, y, proof):
+    """What right answers where nothing of it is refused outright."""
+    lots = []
+    a, b = x, y
+    for c, t in zip(proof, range(k, 0, -1)):
+        lots.append((a, b, c, t))
+        a, b = next_claim(n, a, b, c, t)
+    holds = (a * a - b) % n == 0 or (a * a + b) % n == 0
+    return [0 if holds else -13] + asked_lots(lots)

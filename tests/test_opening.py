@@ -2,10 +2,8 @@
 
 import unittest
 
-from tests.helper import (LEAST, LETTER, N, THREES, TOP, VALUE, answered, begin, face, opened,
-                          row_of, seal, value_of, work)
-
-ALL = 4294967295
+from tests.helper import (ALL, LEAST, LETTER, N, THREES, TOP, VALUE, answered, begin, face,
+                          opened, row_of, seal, value_of, work)
 
 
 def is_value(number):

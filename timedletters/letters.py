@@ -1,6 +1,7 @@
 """The calls on one object, read from a list of whole numbers, and their answers."""
 
-from timedletters.residues import bytes_of, face, is_fit, number_of, pad, power, raised
+from timedletters.residues import bytes_of, number_of, numbers_of
+from timedletters.residues import face, is_fit, is_small, lot, pad, power, raised
 
 
 class UnknownCall(ValueError):
@@ -36,12 +37,35 @@ class Reader:
         return number_of(self.row())
 
 
+class Claim:
+    """That b is the face of a raised 2^t times by n; each round lowers t by one."""
+
+    def __init__(self, n, a, b):
+        self.n = n
+        self.a = a
+        self.b = b
+        self.asked = []
+
+    def halve(self, c, t):
+        """One claim for 2^(t - 1) in place of two: of a and c, and of c and b."""
+        r = lot(self.n, self.a, self.b, c, t)
+        self.asked.append([2] + bytes_of(self.a) + bytes_of(self.b) + bytes_of(c) + [t])
+        self.a = face(power(self.a, r, self.n) * c, self.n)
+        self.b = face(power(c, r, self.n) * self.b, self.n)
+
+    def holds_at_last(self):
+        """Does the one squaring that is left behind the last round lead from a to b?"""
+        return face(self.a * self.a, self.n) == self.b
+
+
 class Opening:
     """The object: what was begun, how far it is, and how many squarings are left."""
 
     def __init__(self):
         self.begun = False
+        self.k = 0
         self.n = 0
+        self.x = 0
         self.reached = 0
         self.left = 0
 
@@ -50,7 +74,9 @@ class Opening:
         if not is_fit(n, x, k):
             return told([-22], [])
         self.begun = True
+        self.k = k
         self.n = n
+        self.x = x
         self.reached = x
         self.left = 1 << k
         return told([0], [])
@@ -71,6 +97,20 @@ class Opening:
         if self.left > 0:
             return told([-1], [])
         return told([0] + bytes_of(face(self.reached, self.n)), [])
+
+    def show(self):
+        """The proof that the value is right, once no squaring is left."""
+        if not self.begun:
+            return [-61]
+        if self.left > 0:
+            return told([-1], [])
+        claim = Claim(self.n, self.x, face(self.reached, self.n))
+        proof = []
+        for t in range(self.k, 0, -1):
+            c = face(raised(claim.a, 1 << (t - 1), self.n), self.n)
+            proof.extend(bytes_of(c))
+            claim.halve(c, t)
+        return told([self.k] + proof, claim.asked)
 
 
 def told(answered, asked):
@@ -96,6 +136,22 @@ def seal(k, n, x, m, letter):
     return padded(letter, face(power(x, exponent, n), n))
 
 
+def right(k, n, x, y, proof):
+    """Does proof show that y is the face of x raised 2^k times? It takes k rounds."""
+    if not is_fit(n, x, k):
+        return told([-22], [])
+    middles = numbers_of(proof)
+    for number in [y] + middles:
+        if not is_small(number, n):
+            return told([-13], [])
+    claim = Claim(n, x, y)
+    for t in range(k, 0, -1):
+        claim.halve(middles[k - t], t)
+    if claim.holds_at_last():
+        return told([0], claim.asked)
+    return told([-13], claim.asked)
+
+
 def answer_of(reader, opening):
     """The answer of the call that begins where the reader is; reads just that call."""
     call = reader.whole()
@@ -113,6 +169,17 @@ def answer_of(reader, opening):
         return opening.work(reader.whole())
     if call == 3:
         return opening.value()
+    if call == 4:
+        return opening.show()
+    if call == 5:
+        k = reader.whole()
+        n = reader.number()
+        x = reader.number()
+        y = reader.number()
+        return right(k, n, x, y, reader.row())
+    if call == 6:
+        y = reader.number()
+        return padded(reader.row(), y)
     raise UnknownCall(f"no call has the number {call}")
 
 

@@ -9,6 +9,11 @@ def number_of(row):
     return number
 
 
+def numbers_of(row):
+    """The numbers of 64 bytes each that stand in row, one behind another."""
+    return [number_of(row[start:start + 64]) for start in range(0, len(row), 64)]
+
+
 def bytes_of(number):
     """The 64 bytes of number, the high byte first."""
     return [(number >> shift) & 255 for shift in range(504, -1, -8)]
@@ -59,3 +64,8 @@ def pad(number):
     """The 32 bytes that are made of number's first and last 32 bytes together."""
     row = bytes_of(number)
     return [(row[i] + row[32 + i]) % 256 for i in range(32)]
+
+
+def lot(n, a, b, c, t):
+    """The number below 2^32 that decides how a round of a proof is brought together."""
+    return (n + a + 3 * b + 5 * c + 7 * t) % 2 ** 32
